@@ -1,14 +1,21 @@
 """A house with its machines and jobs, and the answers to the calls about it."""
 
 from stepjobs.bounds import MOST_MACHINES, MOST_STEPS, is_order, job_fits, machine_fits, steps_together
+from stepjobs.causes import chain
+from stepjobs.lasting import most_longer
+from stepjobs.orders import best_order, how_many_orders
 from stepjobs.parts import Job, Machine, Step
-from stepjobs.timing import cost, job_ends, put_in_time
+from stepjobs.timing import cost, job_ends, late, put_in_time
 
 CALL_BEGINS = 0
 CALL_MACHINE = 1
 CALL_JOB = 2
 CALL_DROP = 3
 CALL_TIMES = 4
+CALL_BEST = 5
+CALL_WAYS = 6
+CALL_WHY = 7
+CALL_SLACK = 8
 
 OUT_OF_BOUNDS = -1
 NOT_THERE = -2
@@ -57,6 +64,32 @@ class House:
             answer.extend([step.job, step.which, step.machine, step.begin, step.stop])
         return answer
 
+    def best(self):
+        found = best_order(self.machines, self.jobs)
+        return [found.spent, found.ended] + found.order
+
+    def count_orders(self):
+        return [how_many_orders(self.jobs), best_order(self.machines, self.jobs).ways]
+
+    def why(self, number, order):
+        if not is_order(self.jobs, order):
+            return [NO_ORDER]
+        if number >= len(self.jobs):
+            return [NOT_THERE]
+        placed = put_in_time(self.machines, self.jobs, order)
+        links = chain(self.jobs, placed, number)
+        answer = [late(self.jobs[number], job_ends(self.jobs, placed)[number]), len(links)]
+        for job, which, cause in links:
+            answer.extend([job, which, cause])
+        return answer
+
+    def slack(self, number, which, order):
+        if number >= len(self.jobs) or which >= len(self.jobs[number].steps):
+            return [NOT_THERE]
+        if not is_order(self.jobs, order):
+            return [NO_ORDER]
+        return [most_longer(self.machines, self.jobs, number, which, order)]
+
 
 def told_machine(numbers):
     rests = [(numbers[k], numbers[k + 1]) for k in range(1, len(numbers), 2)]
@@ -79,7 +112,15 @@ def answer_to(house, call, numbers):
         return house.drop_job(numbers[0])
     if call == CALL_TIMES:
         return house.times_by(numbers)
-    raise NotImplementedError(f"call {call} is not answered yet")
+    if call == CALL_BEST:
+        return house.best()
+    if call == CALL_WAYS:
+        return house.count_orders()
+    if call == CALL_WHY:
+        return house.why(numbers[0], numbers[1:])
+    if call == CALL_SLACK:
+        return house.slack(numbers[0], numbers[1], numbers[2:])
+    raise ValueError(f"there is no call {call}")
 
 
 def answers(calls):

@@ -3,23 +3,25 @@
 
 class Placed:
     # A step as it was put; job and machine are numbers.
-    def __init__(self, job, which, machine, begin, stop):
+    def __init__(self, job, which, machine, ready, begin, stop):
         self.job = job
         self.which = which
         self.machine = machine
+        self.ready = ready
         self.begin = begin
         self.stop = stop
 
 
 class Timetable:
-    def __init__(self, machines, jobs):
+    # How far an order has been put in time: of each job its next step and when the one before has stopped, of each
+    # machine when its last step has stopped and the kind of that.
+    def __init__(self, machines, jobs, upcoming, job_stops, machine_stops, kinds):
         self.machines = machines
         self.jobs = jobs
-        self.upcoming = [0 for job in jobs]
-        self.job_stops = [job.start for job in jobs]
-        self.machine_stops = [0 for machine in machines]
-        # A machine's first step takes no change if its kind is 0.
-        self.kinds = [0 for machine in machines]
+        self.upcoming = upcoming
+        self.job_stops = job_stops
+        self.machine_stops = machine_stops
+        self.kinds = kinds
 
     def put(self, number):
         which = self.upcoming[number]
@@ -32,10 +34,29 @@ class Timetable:
         begin = first_time(machine.rests, ready, takes)
         stop = begin + takes
         self.upcoming[number] = which + 1
-        self.job_stops[number] = stop
+        # Nothing waits for a job that has ended; without its end, timetables that go on alike are equal in all.
+        self.job_stops[number] = stop if self.has_more(number) else 0
         self.machine_stops[step.machine] = stop
         self.kinds[step.machine] = step.kind
-        return Placed(number, which, step.machine, begin, stop)
+        return Placed(number, which, step.machine, ready, begin, stop)
+
+    def has_more(self, number):
+        return self.upcoming[number] < len(self.jobs[number].steps)
+
+    # All that the times of the steps to come depend on.
+    def ahead(self):
+        return (tuple(self.upcoming), tuple(self.job_stops), tuple(self.machine_stops), tuple(self.kinds))
+
+    def copied(self):
+        return Timetable(self.machines, self.jobs, list(self.upcoming), list(self.job_stops),
+                         list(self.machine_stops), list(self.kinds))
+
+
+def new_timetable(machines, jobs):
+    starts = [job.start for job in jobs]
+    # A machine's first step takes no change if its kind is 0.
+    kinds = [0 for machine in machines]
+    return Timetable(machines, jobs, [0 for job in jobs], starts, [0 for machine in machines], kinds)
 
 
 def first_time(rests, ready, takes):
@@ -48,7 +69,7 @@ def first_time(rests, ready, takes):
 
 
 def put_in_time(machines, jobs, order):
-    timetable = Timetable(machines, jobs)
+    timetable = new_timetable(machines, jobs)
     placed = []
     for number in order:
         placed.append(timetable.put(number))
@@ -63,5 +84,17 @@ def job_ends(jobs, placed):
     return ends
 
 
+def late(job, end):
+    return max(0, end - job.due)
+
+
+def job_cost(job, end):
+    return job.weight * late(job, end)
+
+
 def cost(jobs, ends):
-    return sum([job.weight * max(0, end - job.due) for job, end in zip(jobs, ends)])
+    return sum([job_cost(job, end) for job, end in zip(jobs, ends)])
+
+
+def order_cost(machines, jobs, order):
+    return cost(jobs, job_ends(jobs, put_in_time(machines, jobs, order)))

@@ -11,8 +11,9 @@ PACKAGE = pathlib.Path(__file__).resolve().parent.parent / "stepjobs"
 NODES = """
     Module Import ImportFrom alias FunctionDef ClassDef arguments arg Return Assign AugAssign For While If Raise Try
     ExceptHandler Expr Pass Break Continue Call Constant Name Attribute Subscript Slice List Tuple Dict Set ListComp
-    comprehension BinOp BoolOp UnaryOp Compare IfExp Lambda JoinedStr FormattedValue Load Store Add Sub Mult FloorDiv
-    Mod Pow BitAnd BitOr BitXor Invert LShift RShift And Or Not USub UAdd Eq NotEq Lt LtE Gt GtE Is IsNot In NotIn
+    comprehension keyword BinOp BoolOp UnaryOp Compare IfExp Lambda JoinedStr FormattedValue Load Store Add Sub Mult
+    FloorDiv Mod Pow BitAnd BitOr BitXor Invert LShift RShift And Or Not USub UAdd Eq NotEq Lt LtE Gt GtE Is IsNot In
+    NotIn
 """.split()
 
 OWN = """
@@ -38,6 +39,13 @@ WORDS = re.compile(
     r"namedtuple|NamedTuple|TypedDict|TYPE_CHECKING|abstractmethod)\b|dataclass|overload|contextmanager"
 )
 
+KEYWORDS = {"sorted": ["key", "reverse"], "min": ["key", "default"], "max": ["key", "default"], "sum": ["start"],
+            "enumerate": ["start"], "zip": ["strict"]}
+
+WALKED = "zip enumerate reversed range items keys values".split()
+
+WALKERS = "list tuple dict sorted sum any all enumerate zip min max".split()
+
 SPECIAL = ["__init__", "__eq__", "__repr__", "__str__", "__len__"]
 
 
@@ -55,6 +63,11 @@ def nodes(path):
 
 def defs(path):
     return [node for node in nodes(path) if isinstance(node, ast.FunctionDef)]
+
+
+def nodes_called(path, names):
+    calls = [node for node in nodes(path) if isinstance(node, ast.Call)]
+    return [node for node in calls if getattr(node.func, "id", getattr(node.func, "attr", None)) in names]
 
 
 def bound(path):
@@ -217,6 +230,36 @@ class Language(unittest.TestCase):
                 if isinstance(node, ast.Attribute):
                     self.assertIn(node.attr, own | set(METHODS), where(path, node))
                     self.assertNotIn(node.attr, UNUSED, where(path, node))
+
+    def test_keywords(self):
+        for path in files():
+            for node in nodes(path):
+                if isinstance(node, ast.Call) and node.keywords:
+                    self.assertIsInstance(node.func, ast.Name, where(path, node))
+                    for one in node.keywords:
+                        self.assertIn(one.arg, KEYWORDS.get(node.func.id, []), where(path, node))
+
+    def test_no_local_is_called_like_a_class_or_an_import_of_its_file(self):
+        for path in files():
+            tops = [one.name for one in ast.parse(text_of(path)).body if isinstance(one, ast.ClassDef)]
+            tops += [one.name for node in nodes(path) if isinstance(node, ast.ImportFrom) for one in node.names]
+            for node in nodes(path):
+                if isinstance(node, ast.arg):
+                    self.assertNotIn(node.arg, tops, where(path, node))
+                if isinstance(node, ast.Name) and isinstance(node.ctx, ast.Store):
+                    self.assertNotIn(node.id, tops, where(path, node))
+
+    def test_what_is_walked_at_once_is_not_kept(self):
+        for path in files():
+            walked = []
+            for node in nodes(path):
+                if isinstance(node, (ast.For, ast.comprehension)):
+                    walked.append(node.iter)
+                elif isinstance(node, ast.Call) and isinstance(node.func, ast.Name) and node.func.id in WALKERS:
+                    walked.extend(node.args)
+            for node in nodes_called(path, WALKED):
+                self.assertIn(ast.dump(node, include_attributes=True),
+                              [ast.dump(one, include_attributes=True) for one in walked], where(path, node))
 
     def test_is_stands_beside_none_true_and_false_alone(self):
         for path in files():

@@ -1,7 +1,8 @@
 import random
 import unittest
 
-from tests.helper import MOST, ask, drop, job, last, machine, placed, times
+from tests.helper import (MOST, ask, calls_for, cost_by_the_words, drop, job, last, machine, one_order, placed,
+                          rows_by_the_words, some_house, times)
 
 
 class Shape(unittest.TestCase):
@@ -247,57 +248,16 @@ class NoOrder(unittest.TestCase):
 
 
 class AgainstTheWords(unittest.TestCase):
-    """Many houses, put in time once more here, one unit of time after another."""
-
-    def touches(self, rests, begin, takes):
-        return any(a <= time < b for time in range(begin, begin + takes) for a, b in rests)
-
-    def expected(self, machines, jobs, order):
-        done = []
-        for number in order:
-            which = len([row for row in done if row[0] == number])
-            on, kind, length = jobs[number][3][which]
-            own = [row for row in done if row[0] == number]
-            there = [row for row in done if row[2] == on]
-            kind_before = jobs[there[-1][0]][3][there[-1][1]][1] if there else 0
-            takes = length + (machines[on][0] if kind != kind_before else 0)
-            begin = own[-1][4] if own else jobs[number][0]
-            if there and there[-1][4] > begin:
-                begin = there[-1][4]
-            while self.touches(machines[on][1], begin, takes):
-                begin += 1
-            done.append((number, which, on, begin, begin + takes))
-        cost = 0
-        for number, (start, due, weight, steps) in enumerate(jobs):
-            end = [row for row in done if row[0] == number][-1][4]
-            cost += weight * (end - due) if end > due else 0
-        return [cost, len(done)] + [value for row in done for value in row]
-
-    def some_house(self, source):
-        machines = []
-        for number in range(source.randint(1, 4)):
-            edges = sorted(source.sample(range(30), 2 * source.randint(0, 4)))
-            machines.append((source.randint(0, 4), list(zip(edges[::2], edges[1::2]))))
-        jobs = []
-        left = source.randint(1, 8)
-        while left > 0:
-            steps = source.randint(1, left)
-            left -= steps
-            jobs.append((source.randint(0, 12), source.randint(0, 25), source.randint(0, 5),
-                         [(source.randrange(len(machines)), source.randint(0, 2), source.randint(1, 6))
-                          for step in range(steps)]))
-        return machines, jobs
-
     def test_many_houses(self):
         source = random.Random(20)
         for turn in range(1500):
-            machines, jobs = self.some_house(source)
-            order = [number for number, one in enumerate(jobs) for step in one[3]]
+            machines, jobs = some_house(source, 8)
+            order = one_order(jobs)
             source.shuffle(order)
-            calls = [machine(change, *rests) for change, rests in machines]
-            calls += [job(start, due, weight, *steps) for start, due, weight, steps in jobs]
+            rows = rows_by_the_words(machines, jobs, order)
             with self.subTest(machines=machines, jobs=jobs, order=order):
-                self.assertEqual(last(*calls, times(*order)), self.expected(machines, jobs, order))
+                self.assertEqual(last(*calls_for(machines, jobs), times(*order)),
+                                 [cost_by_the_words(jobs, rows), len(rows), *[value for row in rows for value in row]])
 
 
 if __name__ == "__main__":
